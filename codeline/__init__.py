@@ -1,0 +1,1 @@
+"""Many on one line, each by a code: see codeline.line."""
