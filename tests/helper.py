@@ -1,14 +1,17 @@
 """What the tests share: calls put together, answers taken apart, and the
-document's words of codes followed step by step, without the program."""
+document's words followed step by step, without the program."""
 
+from fractions import Fraction
 from functools import lru_cache
 
 from codeline.line import answers
 
 BEGIN = [0]
+LINE = [5]
 RATES = (1, 2, 4, 8, 16, 32, 64, 128, 256)
 NO_RATES = (0, 3, 5, 127, 129, 255, 257, 512, 65536, 4294967295)
 NO_USERS = (256, 257, 65536, 4294967295)
+ZEROS = [0] * 256
 
 
 def open_call(user, rate):
@@ -21,6 +24,29 @@ def close_call(user):
 
 def code_call(user):
     return [3, user]
+
+
+def say_call(user, a, rate=None):
+    """rate is how many numbers a has, but where it is told by itself."""
+    return [4, user, len(a) if rate is None else rate, len(a), *a]
+
+
+def hear_call(user, rate, line):
+    return [6, user, rate, len(line), *line]
+
+
+def level_of(rate):
+    return 8 - RATES.index(rate)
+
+
+def size_of(rate):
+    """How many places a symbol has: 2 to the level."""
+    return 256 // rate
+
+
+def line_with(numbers):
+    """A line of 0s, but for these: place to number."""
+    return [numbers.get(place, 0) for place in range(256)]
 
 
 def ask(*calls):
@@ -70,11 +96,49 @@ def are_apart(one, other):
     return one != other and not is_above(one, other) and not is_above(other, one)
 
 
+@lru_cache(maxsize=None)
+def grown_row(level, k):
+    """The code's row of signs, grown from the code above it."""
+    if level == 0:
+        return (1,)
+    upper = grown_row(level - 1, k // 2)
+    return upper + (upper if k % 2 == 0 else tuple(-sign for sign in upper))
+
+
+@lru_cache(maxsize=None)
+def row_in_256(level, k):
+    return grown_row(level, k) * 2 ** (8 - level)
+
+
+def lay_in_words(line, code, a):
+    return [number + sign * a[place // 2 ** code[0]]
+            for place, (number, sign) in enumerate(zip(line, row_in_256(*code)))]
+
+
+def hear_in_words(line, code):
+    """For each symbol the sum, before it is divided."""
+    sums = [0] * 2 ** (8 - code[0])
+    for place, (number, sign) in enumerate(zip(line, row_in_256(*code))):
+        sums[place // 2 ** code[0]] += sign * number
+    return sums
+
+
+def nearest(number, size):
+    # Python's round of a fraction takes, of two equally near ones, the even one.
+    return round(Fraction(number, size))
+
+
 class Words:
-    """open, close and code as the document says them, tried k by k."""
+    """All seven calls as the document says them, tried k by k and place by place."""
 
     def __init__(self):
+        self.begin()
+
+    def begin(self):
         self.codes = {}
+        self.line = list(ZEROS)
+        self.said = set()
+        return [0]
 
     def least_k(self, level, codes):
         for k in range(2 ** level):
@@ -91,11 +155,13 @@ class Words:
     def open(self, user, rate):
         if user > 255 or rate not in RATES:
             return [-22]
+        if self.said:
+            return [-16]
         if user in self.codes:
             return [-17]
         if sum(2 ** (8 - level) for level, _ in self.codes.values()) + rate > 256:
             return [-28]
-        level = 8 - RATES.index(rate)
+        level = level_of(rate)
         k = self.least_k(level, self.codes)
         if k is not None:
             self.codes[user] = (level, k)
@@ -113,6 +179,8 @@ class Words:
     def close(self, user):
         if user > 255:
             return [-22]
+        if self.said:
+            return [-16]
         return [0] if self.codes.pop(user, None) else [-2]
 
     def code(self, user):
@@ -120,10 +188,41 @@ class Words:
             return [-22]
         return [0, *self.codes[user]] if user in self.codes else [-2]
 
+    def say(self, user, rate, a):
+        if user > 255 or rate not in RATES:
+            return [-22]
+        if user not in self.codes:
+            return [-2]
+        if self.codes[user][0] != level_of(rate):
+            return [-33]
+        if user in self.said:
+            return [-16]
+        if any(number < -2047 or number > 2047 for number in a):
+            return [-34]
+        self.line = lay_in_words(self.line, self.codes[user], a)
+        self.said.add(user)
+        return [0]
+
+    def tell_line(self):
+        told = [len(self.said), *self.line]
+        self.line = list(ZEROS)
+        self.said = set()
+        return told
+
+    def hear(self, user, rate, line):
+        if user > 255 or rate not in RATES:
+            return [-22]
+        if any(number < -1000000 or number > 1000000 for number in line):
+            return [-22]
+        if user not in self.codes:
+            return [-2]
+        if self.codes[user][0] != level_of(rate):
+            return [-33]
+        return [0, *[nearest(number, size_of(rate)) for number in hear_in_words(line, self.codes[user])]]
+
     def answer(self, call):
-        if call[0] == 0:
-            self.codes = {}
-            return [0]
-        if call[0] == 1:
-            return self.open(call[1], call[2])
-        return self.close(call[1]) if call[0] == 2 else self.code(call[1])
+        if call[0] in (4, 6):
+            kinds = {4: self.say, 6: self.hear}
+            return kinds[call[0]](call[1], call[2], call[4:])
+        kinds = {0: self.begin, 1: self.open, 2: self.close, 3: self.code, 5: self.tell_line}
+        return kinds[call[0]](*call[1:])

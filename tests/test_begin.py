@@ -2,8 +2,7 @@
 
 import unittest
 
-from codeline.shared_line import SharedLine
-from tests.helper import BEGIN, all_codes, ask, close_call, code_call, last, open_call
+from tests.helper import BEGIN, LINE, ZEROS, all_codes, ask, close_call, code_call, last, open_call, say_call
 
 
 class Begin(unittest.TestCase):
@@ -37,14 +36,11 @@ class Begin(unittest.TestCase):
         self.assertEqual(ask(*calls, BEGIN, *calls), once + [[0]] + once)
 
     def test_the_line_is_0_and_nobody_has_said_anything(self):
-        shared = SharedLine()
-        self.assertEqual((shared.row, shared.said), ([0] * 256, {}))
-        shared.open_user(7, 2)
-        shared.row[255] = -1
-        shared.said[7] = True
-        self.assertEqual(shared.begin(), [0])
-        self.assertEqual((shared.row, shared.said), ([0] * 256, {}))
-        self.assertEqual(shared.open_user(7, 2), [0])
+        self.assertEqual(last(BEGIN, LINE), [0] + ZEROS)
+        calls = [open_call(7, 2), say_call(7, [5, -5]), BEGIN]
+        self.assertEqual(last(*calls, LINE), [0] + ZEROS)
+        self.assertEqual(ask(*calls, open_call(7, 2), say_call(7, [1, 0]), LINE)[3:],
+                         [[0], [0], [1] + [1] * 128 + [0] * 128])
 
 
 if __name__ == "__main__":

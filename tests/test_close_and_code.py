@@ -2,7 +2,6 @@
 
 import unittest
 
-from codeline.shared_line import SharedLine
 from tests.helper import NO_USERS, RATES, all_codes, ask, close_call, code_call, last, open_call
 
 OPENS = [open_call(0, 64), open_call(255, 2), open_call(9, 128)]
@@ -45,31 +44,6 @@ class Close(unittest.TestCase):
         self.assertEqual(last(*calls), [0])
         self.assertEqual(all_codes(*calls), {7: (1, 0), 0: (2, 2)})
         self.assertEqual(last(*calls, open_call(8, 64)), [3])
-
-
-class CloseWhenSomebodyHasSaid(unittest.TestCase):
-    def setUp(self):
-        self.shared = SharedLine()
-        self.shared.open_user(3, 128)
-        self.shared.open_user(4, 64)
-        self.shared.said[3] = True
-
-    def test_refused_and_nothing_changes(self):
-        for user in (3, 4):
-            self.assertEqual(self.shared.close_user(user), [-16])
-        self.assertEqual(self.shared.code_of(3), [0, 1, 0])
-        self.assertEqual(self.shared.code_of(4), [0, 2, 2])
-
-    def test_22_is_named_ahead_of_16(self):
-        self.assertEqual(self.shared.close_user(256), [-22])
-
-    def test_16_is_named_ahead_of_2(self):
-        self.assertEqual(self.shared.close_user(5), [-16])
-
-    def test_code_is_answered_all_the_same(self):
-        self.assertEqual(self.shared.code_of(256), [-22])
-        self.assertEqual(self.shared.code_of(5), [-2])
-        self.assertEqual(self.shared.code_of(3), [0, 1, 0])
 
 
 class Code(unittest.TestCase):

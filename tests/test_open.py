@@ -2,7 +2,6 @@
 
 import unittest
 
-from codeline.shared_line import SharedLine
 from tests.helper import (NO_RATES, NO_USERS, RATES, all_codes, ask, close_call,
                           code_call, last, open_call)
 
@@ -60,31 +59,6 @@ class Refusals(unittest.TestCase):
             self.assertEqual(all_codes(*opens, open_call(user, rate)), before)
             # A refused rate must not count, nor may it take a code.
             self.assertEqual(last(*opens, open_call(user, rate), open_call(10, 32)), [1])
-
-
-class SomebodyHasSaid(unittest.TestCase):
-    def setUp(self):
-        self.shared = SharedLine()
-        self.shared.open_user(3, 128)
-        self.shared.said[3] = True
-
-    def test_refused(self):
-        self.assertEqual(self.shared.open_user(4, 1), [-16])
-        self.assertEqual(self.shared.code_of(4), [-2])
-
-    def test_22_is_named_ahead_of_16(self):
-        self.assertEqual(self.shared.open_user(256, 1), [-22])
-        self.assertEqual(self.shared.open_user(4, 3), [-22])
-
-    def test_16_is_named_ahead_of_17_and_28(self):
-        self.assertEqual(self.shared.open_user(3, 128), [-16])
-        self.assertEqual(self.shared.open_user(4, 256), [-16])
-
-    def test_user_0_is_somebody_too(self):
-        shared = SharedLine()
-        shared.open_user(0, 1)
-        shared.said[0] = True
-        self.assertEqual(shared.open_user(4, 1), [-16])
 
 
 class LeastK(unittest.TestCase):
